@@ -4,10 +4,15 @@ from askedtime.others import Other
 from askedtime.packets import PACKET_SIZE, Packet, asking_packet
 from askedtime.samples import is_usable, sample_of
 from askedtime.times import is_precision
+from askedtime.truth import truth_of, within
+from askedtime.views import View
+from askedtime.weighing import by_rank, that_stay, weighed
 
 BEGIN = 1
 ASK = 2
 ANSWER = 3
+OTHER = 4
+TRUE = 5
 
 # How many numbers a call has, itself included; of answer, ahead of its packet.
 CALL_SIZES = {1: 2, 2: 3, 3: 4, 4: 3, 5: 2, 6: 2}
@@ -19,6 +24,8 @@ DONE = 0
 OUT_OF_RANGE = -2
 NOT_AN_ANSWER = -3
 NOT_USABLE = -4
+NO_SAMPLE = -4
+NO_TRUTH = -5
 NOT_BEGUN = -9
 
 
@@ -66,6 +73,38 @@ class Desk:
         other.take(packet, sample_of(packet, now, self.precision))
         return [DONE]
 
+    def fit_views(self, now):
+        """What each that is fit says now, in order by number."""
+        views = [View(other, now, self.precision) for other in self.others if len(other.samples) > 0]
+        return [view for view in views if view.fit]
+
+    def other(self, number, now):
+        """What one of the others says now."""
+        if not is_other(number):
+            return [OUT_OF_RANGE]
+        if len(self.others[number].samples) == 0:
+            return [NO_SAMPLE]
+        view = View(self.others[number], now, self.precision)
+        fit = 1 if view.fit else 0
+        return [DONE, view.offset, view.delay, view.dispersion, view.jitter, view.distance, fit]
+
+    def true(self, now):
+        """Between which offsets the true one lies, and how many say so."""
+        views = self.fit_views(now)
+        truth = truth_of(views)
+        if truth is None:
+            return [NO_TRUTH]
+        return [len(within(truth, views)), truth.low, truth.high, truth.wrong]
+
+    def best(self, now):
+        """The offset of those that are true, weighed, and how many they are."""
+        views = self.fit_views(now)
+        truth = truth_of(views)
+        if truth is None:
+            return [NO_TRUTH]
+        views = that_stay(by_rank(within(truth, views)))
+        return [len(views), weighed(views)]
+
     def reply(self, call):
         """What one call, with all its numbers, is answered."""
         kind = call[0]
@@ -77,7 +116,11 @@ class Desk:
             return self.ask(call[1], call[2])
         if kind == ANSWER:
             return self.answer(call[1], call[2], call[4:])
-        raise NotImplementedError("the calls other, true and best are not written yet")
+        if kind == OTHER:
+            return self.other(call[1], call[2])
+        if kind == TRUE:
+            return self.true(call[1])
+        return self.best(call[1])
 
 
 def end_of_call(calls, start):

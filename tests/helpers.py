@@ -21,6 +21,18 @@ def answer(other, now, row):
     return [3, other, now, len(row)] + list(row)
 
 
+def other(number, now):
+    return [4, number, now]
+
+
+def true(now):
+    return [5, now]
+
+
+def best(now):
+    return [6, now]
+
+
 def run(*calls):
     """The answers to the calls, a list each."""
     told = answers([number for call in calls for number in call])
@@ -48,6 +60,25 @@ def packet(origin, received, sent, leap=0, version=4, mode=4, stratum=2, precisi
         ">BBBbIIIQQQQ", leap * 64 + version * 8 + mode, stratum, poll, precision,
         root_delay, root_dispersion, reference, updated,
         origin % 2 ** 64, received % 2 ** 64, sent % 2 ** 64))
+
+
+def exchanged(number, offset, delay, now, **fields):
+    """The two calls by which a sample of this offset and (even) delay is taken now."""
+    origin = now - delay
+    middle = origin + offset + delay // 2
+    return [ask(number, origin % 2 ** 64), answer(number, now % 2 ** 64, packet(origin, middle, middle, **fields))]
+
+
+def saying(number, offset, distance, now, jitter=1, stratum=2):
+    """Calls of eight samples by which one says all this now, if one's own precision is -32."""
+    roots, half = divmod(distance - jitter - 1, 2 ** 15)
+    fields = {"stratum": stratum, "precision": -32, "root_delay": roots % 2, "root_dispersion": roots // 2}
+    calls = []
+    for place in range(7):
+        # A longer delay makes these the others that the first one's jitter is reckoned from.
+        more = jitter if jitter > 1 else 0
+        calls += exchanged(number, offset + more, 2 * half + 2, now, **fields)
+    return calls + exchanged(number, offset, 2 * half, now, **fields)
 
 
 def begun(precision=-20):
